@@ -1,0 +1,1 @@
+"""Floors of mirrors, and polygons that lay them out."""

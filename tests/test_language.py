@@ -1,0 +1,166 @@
+"""The program keeps to its small part of Python, and defines its interface where it is listed."""
+
+import ast
+import builtins
+import importlib
+import inspect
+import pathlib
+import re
+import unittest
+
+PACKAGE = pathlib.Path(__file__).resolve().parent.parent / "foldfloor"
+FILES = sorted(PACKAGE.iterdir())
+
+BUILTINS = set("""len range enumerate zip min max sum abs sorted reversed int str bool list tuple
+    dict set isinstance ord repr any all divmod iter next ValueError TypeError KeyError super""".split())
+
+METHODS = set("""append clear copy count endswith extend find get index insert isalnum isalpha isdigit
+    islower isspace isupper items join keys ljust lower lstrip partition pop remove replace reverse
+    rfind rjust rpartition rsplit rstrip setdefault split splitlines startswith strip update upper
+    values zfill bit_length add discard""".split())
+
+BARRED = set("""type typing enum Enum IntEnum StrEnum Flag IntFlag Generic Protocol ABC ABCMeta
+    namedtuple NamedTuple TypedDict TYPE_CHECKING abstractmethod""".split())
+
+NAMES = set("""register mro elements open input law version_info with_traceback add_note breakpoint
+    compile copyright delattr dir eval exec exit gc getattr globals hasattr help id license locals os
+    quit setattr vars sys float chr hash map filter format round slice object""".split())
+
+NOT_ALLOWED = (ast.Global, ast.AsyncFunctionDef, ast.AsyncFor, ast.AsyncWith, ast.Await,
+               ast.GeneratorExp, ast.Div)
+
+INTERFACE = {
+    "orders": {"is_orders": "orders", "check_orders": "orders", "order_of": "orders one other",
+               "check_word": "word", "kind_of": "orders"},
+    "words": {"normal": "orders word", "length": "orders word", "is_shortest": "orders word",
+              "same_tile": "orders one other", "ends": "orders word",
+              "left_out": "orders word letter", "times": "orders one other",
+              "inverse": "orders word", "power": "orders word exponent"},
+    "steps": {"stepped": "orders word step", "walked": "orders word log",
+              "is_log": "orders start end log", "undone": "orders word log",
+              "derive": "orders word", "connect": "orders one other"},
+}
+
+
+def trees():
+    return [(file, ast.parse(file.read_text())) for file in FILES if file.suffix == ".py"]
+
+
+class Files(unittest.TestCase):
+    def test_only_plain_files(self):
+        for file in FILES:
+            if file.name != "__pycache__":
+                self.assertRegex(file.name, r"^[a-z0-9_]+\.py$")
+
+    def test_sizes_and_characters(self):
+        for file, tree in trees():
+            text = file.read_text()
+            rows = text.split("\n")
+            self.assertLessEqual(len(rows), 399, file)
+            self.assertTrue(all(len(row) <= 120 for row in rows), file)
+            self.assertTrue(all(mark == "\n" or " " <= mark <= "~" for mark in text), file)
+            for node in ast.walk(tree):
+                if isinstance(node, ast.FunctionDef):
+                    self.assertLessEqual(node.end_lineno - node.lineno + 1, 40, node.name)
+
+
+class Language(unittest.TestCase):
+    def test_module_level(self):
+        kinds = (ast.Expr, ast.ImportFrom, ast.FunctionDef, ast.ClassDef, ast.Assign)
+        for file, tree in trees():
+            for node in tree.body:
+                self.assertIsInstance(node, kinds, file)
+                if isinstance(node, ast.Expr):
+                    self.assertIsInstance(node.value, ast.Constant)
+
+    def test_imports(self):
+        for file, tree in trees():
+            for node in ast.walk(tree):
+                self.assertNotIsInstance(node, ast.Import, file)
+                if not isinstance(node, ast.ImportFrom):
+                    continue
+                self.assertEqual(node.level, 0)
+                if node.module == "math":
+                    self.assertTrue({name.name for name in node.names} <= {"gcd", "lcm"})
+                    continue
+                where, source = node.module.split(".")
+                self.assertEqual(where, "foldfloor")
+                defined = ast.parse((PACKAGE / f"{source}.py").read_text()).body
+                names = {one.name for one in defined if hasattr(one, "name")}
+                names |= {one.targets[0].id for one in defined if isinstance(one, ast.Assign)}
+                for name in node.names:
+                    self.assertIn(name.name, names)
+                    self.assertIsNone(name.asname)
+
+    def test_nothing_barred(self):
+        for file, tree in trees():
+            for node in ast.walk(tree):
+                self.assertNotIsInstance(node, NOT_ALLOWED, (file, getattr(node, "lineno", 0)))
+                if isinstance(node, (ast.FunctionDef, ast.ClassDef)):
+                    self.assertEqual(node.decorator_list, [])
+                if isinstance(node, ast.Constant):
+                    self.assertNotIsInstance(node.value, (float, bytes, complex))
+                    if isinstance(node.value, str):
+                        self.assertNotIn("%", node.value)
+
+    def test_names(self):
+        own_names = set()
+        for _, tree in trees():
+            for node in ast.walk(tree):
+                if isinstance(node, (ast.FunctionDef, ast.ClassDef)):
+                    own_names.add(node.name)
+        for file, tree in trees():
+            for node in ast.walk(tree):
+                if isinstance(node, ast.Name):
+                    self.assertNotIn(node.id, NAMES | BARRED, file)
+                    if hasattr(builtins, node.id):
+                        self.assertIn(node.id, BUILTINS, file)
+                        self.assertIsInstance(node.ctx, ast.Load)
+                if isinstance(node, ast.arg):
+                    self.assertFalse(hasattr(builtins, node.arg), (file, node.arg))
+                if isinstance(node, ast.Attribute):
+                    if isinstance(node.value, ast.Constant):
+                        self.assertIn(node.attr, METHODS)
+                if isinstance(node, ast.Call) and isinstance(node.func, ast.Attribute):
+                    if node.func.attr != "__init__":
+                        self.assertIn(node.func.attr, METHODS | own_names, file)
+
+    def test_no_name_hides_an_import_or_a_class(self):
+        for file, tree in trees():
+            top = {name.name for node in tree.body if isinstance(node, ast.ImportFrom)
+                   for name in node.names}
+            top |= {node.name for node in tree.body if isinstance(node, ast.ClassDef)}
+            for node in ast.walk(tree):
+                if isinstance(node, ast.Name) and isinstance(node.ctx, ast.Store):
+                    self.assertNotIn(node.id, top, file)
+                if isinstance(node, ast.arg):
+                    self.assertNotIn(node.arg, top, file)
+
+    def test_barred_words(self):
+        for file in FILES:
+            if file.suffix == ".py":
+                found = set(re.findall(r"[A-Za-z_]+", file.read_text()))
+                self.assertEqual(found & BARRED, set(), file)
+
+    def test_generators_have_names_of_their_own(self):
+        names = [node.name for _, tree in trees() for node in ast.walk(tree)
+                 if isinstance(node, ast.FunctionDef)]
+        for file, tree in trees():
+            for node in ast.walk(tree):
+                if isinstance(node, ast.FunctionDef):
+                    if any(isinstance(part, (ast.Yield, ast.YieldFrom)) for part in ast.walk(node)):
+                        self.assertEqual(names.count(node.name), 1)
+
+
+class Interface(unittest.TestCase):
+    def test_functions_stand_in_their_files(self):
+        for name, functions in INTERFACE.items():
+            module = importlib.import_module(f"foldfloor.{name}")
+            for function, arguments in functions.items():
+                found = getattr(module, function)
+                self.assertEqual(found.__module__, module.__name__)
+                self.assertEqual(list(inspect.signature(found).parameters), arguments.split())
+
+
+if __name__ == "__main__":
+    unittest.main()
