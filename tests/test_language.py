@@ -39,6 +39,20 @@ INTERFACE = {
     "steps": {"stepped": "orders word step", "walked": "orders word log",
               "is_log": "orders start end log", "undone": "orders word log",
               "derive": "orders word", "connect": "orders one other"},
+    "rings": {"ring": "orders n", "ball": "orders n", "counts": "orders n",
+              "around": "orders tile one other", "cells": "orders n"},
+    "series": {"series": "orders", "expand": "fraction n", "is_reduced": "fraction"},
+    "walls": {"wall_of": "orders tile letter", "crossings": "orders tile way",
+              "is_mirror": "orders motion", "is_near": "orders wall tile",
+              "mirrored": "orders wall tile", "sides_between": "orders wall one other",
+              "parting": "orders one other", "wall_moved": "orders motion wall"},
+    "ways": {"distance": "orders one other", "count_ways": "orders one other",
+             "all_ways": "orders one other", "between": "orders one other",
+             "is_between": "orders tile one other"},
+    "polygons": {"is_polygon": "polygon", "check_polygon": "polygon",
+                 "polygon_of": "orders words", "contains": "polygon word",
+                 "border_sides": "polygon", "inner_sides": "polygon", "grown": "polygon",
+                 "moved": "polygon word"},
 }
 
 
