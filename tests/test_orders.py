@@ -58,6 +58,12 @@ class Orders(unittest.TestCase):
                 with self.assertRaises(NotOrders):
                     call(wrong)
 
+    def test_true_and_false_are_no_integers(self):
+        for wrong in ((False, 3, 3), (3, False, 3), (3, 3, True), (False, False, False)):
+            self.assertIs(orders.is_orders(wrong), False)
+            with self.assertRaises(NotOrders):
+                orders.check_orders(wrong)
+
     def test_order_of_all_pairs(self):
         told = {"01": 5, "10": 5, "12": 7, "21": 7, "02": 0, "20": 0}
         for one, other in product("012", repeat=2):

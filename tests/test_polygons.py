@@ -115,6 +115,10 @@ class Conditions(unittest.TestCase):
             self.check((orders, ("",)), False)
             self.check((orders, ()), False)
 
+    def test_pairs_alone(self):
+        for wrong in ((), ((3, 3, 3),), ((3, 3, 3), ("",), ("",))):
+            self.check(wrong, False)
+
     def test_holes(self):
         tiles = ball((3, 3, 3), 4)
         self.check(((3, 3, 3), tuple(tiles[1:])), True)

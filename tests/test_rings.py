@@ -1,6 +1,7 @@
 """Promises [20] to [23], [26] and [27]: rings, balls, corners, cells."""
 
 import unittest
+from unittest.mock import patch
 
 from foldfloor import rings
 from foldfloor.errors import BadNumber, NoAnswer, NotOrders, NotWord, TooLarge
@@ -98,6 +99,18 @@ class Rings(unittest.TestCase):
             rows = self.far_counts(orders)
             self.assertEqual(many, next((n for n, row in enumerate(rows) if row > 2000), 41))
             self.assertEqual(len(rings.ring(orders, many - 1)), rows[many - 1])
+
+    def test_the_limit_itself_is_allowed(self):
+        self.assertEqual(rings.MOST_TILES, 2000)
+        for limit, n in ((12, 4), (14, 4), (15, 5)):
+            with patch.object(rings, "MOST_TILES", limit):
+                for call in (rings.ring, rings.ball, rings.counts, rings.cells):
+                    self.assertTrue(call((3, 3, 3), n))
+                    with self.assertRaises(TooLarge):
+                        call((3, 3, 3), n + 1)
+        with patch.object(rings, "MOST_TILES", 5):
+            with self.assertRaises(TooLarge):
+                rings.ring((3, 3, 2), 6)
 
     def answers(self, orders, n):
         try:

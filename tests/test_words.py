@@ -87,6 +87,46 @@ class LongWords(unittest.TestCase):
         self.assertEqual(words.normal((2, 2, 0), "1" * 59), "1")
 
 
+def flat_length(word, height, bends, slopes):
+    """The length of a tile of a flat floor, by the places and slopes of [221] and [223]."""
+    place = [1, 1, 1]
+    for letter in word[::-1]:
+        i = int(letter)
+        here = place[i]
+        place = [place[j] + bends[i][j] * here for j in range(3)]
+        place[i] = -here
+    return sum(abs(slope // height) for slope in slopes(place))
+
+
+class FlatFloors(unittest.TestCase):
+    def check(self, orders, height, bends, slopes):
+        tiles = Tiles(orders)
+        for word in some_words(17, 40, 0, 60) + some_words(18, 6, 300, 400) + ["012" * 133]:
+            told = flat_length(word, height, bends, slopes)
+            self.assertEqual(len(tiles.normal(word)), told)
+            self.assertEqual(tiles.normal(tiles.normal(word)), tiles.normal(word))
+
+    def test_lengths_from_places(self):
+        self.check((3, 3, 3), 3, ((0, 1, 1), (1, 0, 1), (1, 1, 0)),
+                   lambda x: (x[1], x[2], x[1] + x[2]))
+        self.check((4, 4, 2), 4, ((0, 1, 0), (2, 0, 2), (0, 1, 0)),
+                   lambda x: (x[1], x[2], x[1] + x[2], 2 * x[1] + x[2]))
+        self.check((3, 6, 2), 6, ((0, 1, 0), (1, 0, 1), (0, 3, 0)),
+                   lambda x: (x[1], x[2], x[1] + x[2], x[1] + 2 * x[2], x[1] + 3 * x[2],
+                              2 * x[1] + 3 * x[2]))
+
+
+class FloorsWithoutCorners(unittest.TestCase):
+    def test_only_equal_letters_cut_each_other(self):
+        tiles = Tiles((0, 0, 0))
+        for word in some_words(19, 60, 0, 40) + some_words(20, 5, 400, 400):
+            left = ""
+            for letter in word:
+                left = left[:-1] if left.endswith(letter) else left + letter
+            self.assertEqual(tiles.normal(word), left)
+            self.assertEqual(tiles.ends(word), left[-1:])
+
+
 class Lengths(unittest.TestCase):
     def test_beyond_a_side_the_length_differs_by_one(self):
         for orders in ALL:
@@ -192,6 +232,7 @@ class Products(unittest.TestCase):
             self.assertEqual(words.power(orders, word, -1), words.inverse(orders, word))
         self.assertEqual(words.power((0, 0, 0), "012" * 20, 30), "012" * 600)
         self.assertEqual(words.power((0, 0, 0), "012" * 20, -30), "210" * 600)
+        self.assertEqual(words.power((12, 11, 12), "012" * 20, 30), "012" * 600)
 
     def test_bad_exponents(self):
         for exponent in (31, -31, 10 ** 20, -10 ** 20):
@@ -233,6 +274,11 @@ class RememberedTiles(unittest.TestCase):
         self.assertEqual(tiles.beyond(word, "1"), word + "1")
         self.assertEqual(tiles.beyond(word, "0"), word[:-1])
         self.assertEqual(tiles.ends(word), "0")
+        for orders in ((12, 11, 12), (11, 9, 7), (10, 12, 5)):
+            # Nothing can be turned in this word: it is the only shortest one of its tile.
+            self.assertEqual(Tiles(orders).normal(word), word)
+            self.assertEqual(Tiles(orders).beyond(word, "0"), word[:-1])
+            self.assertEqual(Tiles(orders).ends(word), "0")
         flat = Tiles((3, 3, 3))
         self.assertEqual(flat.normal("012" * 133), "012" * 133)
         self.assertEqual(flat.ends("012" * 133), "2")
