@@ -27,6 +27,11 @@ def sides_within(floor, tiles):
     return found
 
 
+def tiles_beyond(floor, tiles):
+    """The tile beyond each inner side of some tiles."""
+    return {(tile, letter): floor.normal(tile + letter) for tile, letter in sides_within(floor, tiles)}
+
+
 def are_joined(floor, tiles):
     """Whether one comes from each of some normal words to each other one without leaving them."""
     inner = sides_within(floor, tiles)

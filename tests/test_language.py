@@ -53,6 +53,25 @@ INTERFACE = {
                  "polygon_of": "orders words", "contains": "polygon word",
                  "border_sides": "polygon", "inner_sides": "polygon", "grown": "polygon",
                  "moved": "polygon word"},
+    "border": {"passage": "polygon side letter", "circles": "polygon", "border_corners": "polygon",
+               "angle": "orders passage", "tile_area": "orders", "area": "polygon",
+               "euler_number": "polygon", "is_disc": "polygon"},
+    "hulls": {"parting_all": "orders words", "hull": "orders words", "is_convex": "orders words",
+              "hull_polygon": "orders words", "gate": "orders word tile corner"},
+    "pairing": {"is_pairing": "polygon pairs", "check_pairing": "polygon pairs", "mirrors": "polygon",
+                "pair_motion": "polygon pairs k", "row_motion": "polygon pairs row",
+                "walked": "polygon pairs tile word"},
+    "rounds": {"rounds_of": "polygon pairs", "fits": "polygon pairs", "overlap": "polygon pairs"},
+    "copies": {"part_of": "polygon pairs tile", "place_of": "polygon pairs tile",
+               "cut_row": "polygon pairs row", "in_group": "polygon pairs word",
+               "copy_of": "polygon pairs row"},
+}
+
+# The methods that the interface lists for classes, with their arguments behind the object itself.
+CLASSES = {
+    ("words", "Tiles"): {"__init__": "orders", "normal": "word", "beyond": "tile letter",
+                         "ends": "word"},
+    ("rounds", "Round"): {"__len__": ""},
 }
 
 
@@ -174,6 +193,14 @@ class Interface(unittest.TestCase):
                 found = getattr(module, function)
                 self.assertEqual(found.__module__, module.__name__)
                 self.assertEqual(list(inspect.signature(found).parameters), arguments.split())
+
+    def test_methods_stand_in_their_classes(self):
+        for (name, class_name), methods in CLASSES.items():
+            found = getattr(importlib.import_module(f"foldfloor.{name}"), class_name)
+            self.assertEqual(found.__module__, f"foldfloor.{name}")
+            for method, arguments in methods.items():
+                parameters = list(inspect.signature(vars(found)[method]).parameters)
+                self.assertEqual(parameters[1:], arguments.split())
 
 
 if __name__ == "__main__":

@@ -1,0 +1,62 @@
+"""Polygons with pairings, and the walk over their tiles."""
+
+from foldfloor.depths import Floor
+from foldfloor.polygons import tiles_beyond
+
+
+class Gluing:
+    """A polygon and a pairing of it; both are known to be right."""
+
+    def __init__(self, polygon, pairs):
+        self.orders, self.tiles = polygon
+        self.pairs = pairs
+        self.floor = Floor(self.orders)
+        # For each side: the tile to which the walk leads over it, and the integer that it notes, or 0.
+        self.leads = {}
+        # The numbers of the mirrors, by their sides.
+        self.mirrors = {}
+        for side, there in tiles_beyond(self.floor, self.tiles).items():
+            self.leads[side] = (there, 0)
+        for k, (one, other) in enumerate(pairs):
+            if one == other:
+                self.mirrors[one] = k
+                self.leads[one] = (one[0], k + 1)
+            else:
+                self.leads[one] = (other[0], -(k + 1))
+                self.leads[other] = (one[0], k + 1)
+
+    def beyond(self, tile, letter):
+        """The tile to which the walk leads over a side."""
+        return self.leads[(tile, letter)][0]
+
+    def walk(self, tile, word):
+        """The tile at the end of the walk along a word, and the noted row."""
+        row = []
+        for letter in word:
+            tile, number = self.leads[(tile, letter)]
+            if number != 0:
+                row.append(number)
+        return tile, tuple(row)
+
+    def pair_word(self, k):
+        """The word of the motion of a pair, not yet normal."""
+        (one, letter), (other, _) = self.pairs[k]
+        return other + letter + one[::-1]
+
+    def row_motion(self, row):
+        """The normal word of the motion of a row."""
+        words = []
+        for number in row:
+            word = self.pair_word(abs(number) - 1)
+            words.append(word if number > 0 else word[::-1])
+        return self.product(words)
+
+    def product(self, words):
+        """The normal word of some words, one behind the other."""
+        if len(words) == 0:
+            return ""
+        # Halves first: what cuts each other is gone before the words are long.
+        middle = len(words) // 2
+        if middle == 0:
+            return self.floor.normal(words[0])
+        return self.floor.normal(self.product(words[:middle]) + self.product(words[middle:]))
