@@ -72,25 +72,57 @@ def some_gluings(seed=0):
     return found
 
 
-def some_involution(many, source):
+def some_involution(many, source, chance=0.8):
     """A permutation that is its own inverse."""
     row = list(range(many))
     left = list(range(many))
     source.shuffle(left)
     while len(left) > 1:
         one, other = left.pop(), left.pop()
-        if source.random() < 0.8:
+        if source.random() < chance:
             row[one], row[other] = other, one
     return row
+
+
+def some_exchange(many, source, chance):
+    """A permutation that is its own inverse and takes odd numbers to even ones."""
+    row = list(range(many))
+    even, odd = row[::2], row[1::2]
+    source.shuffle(even)
+    for one, other in zip(even, odd):
+        if source.random() < chance:
+            row[one], row[other] = other, one
+    return row
+
+
+@lru_cache(maxsize=None)
+def large_gluings():
+    """Polygons with more tiles whose pairings fit: surfaces with handles, rims and holes."""
+    source = random.Random(21)
+    found = []
+    for orders in ((0, 0, 0), (0, 0, 2), (4, 0, 0), (12, 12, 12), (6, 6, 6), (4, 4, 4)):
+        for many in (6, 10, 14, 22):
+            for chance in (1, 0.9, 0.7):
+                for choose in (some_involution, some_exchange):
+                    for _ in range(200):
+                        rows = [choose(many, source, chance) for _ in LETTERS]
+                        if acts(rows, orders):
+                            found.append(polygon_from(orders, rows, source, ""))
+                            break
+    return tuple(found)
 
 
 def permuted(orders, many, source):
     """Three permutations that are their own inverses, with the orders of a floor, or None."""
     for _ in range(3000):
         rows = [some_involution(many, source) for _ in LETTERS]
-        if all(acts_rightly(rows, orders, *corner) for corner in CORNERS) and joins_all(rows):
+        if acts(rows, orders):
             return rows
     return None
+
+
+def acts(rows, orders):
+    return all(acts_rightly(rows, orders, *corner) for corner in CORNERS) and joins_all(rows)
 
 
 def acts_rightly(rows, orders, one, other):
@@ -112,10 +144,16 @@ def joins_all(rows):
     return len(met) == len(rows[0])
 
 
-def polygon_from(orders, rows, source):
-    """A polygon with a tile for each number and a pairing such that the walk acts as permutations."""
+def some_start(orders, source):
+    return Tiles(orders).normal("".join(source.choice(LETTERS) for _ in range(source.choice((0, 0, 4)))))
+
+
+def polygon_from(orders, rows, source, start):
+    """A polygon with a tile for each number and a pairing such that the walk acts as permutations.
+
+    The number 0 gets the first tile.
+    """
     floor = Tiles(orders)
-    start = floor.normal("".join(source.choice(LETTERS) for _ in range(source.choice((0, 0, 4)))))
     tiles = {0: start}
     while len(tiles) < len(rows[0]):
         at = source.choice(sorted(tiles))
@@ -130,6 +168,20 @@ def polygon_from(orders, rows, source):
 
 
 @lru_cache(maxsize=None)
+def twins():
+    """Pairs of polygons with pairings that have the same group."""
+    source = random.Random(12)
+    found = []
+    for orders in ALL:
+        for many in (1, 2, 3, 4, 6):
+            rows = permuted(orders, many, source)
+            if rows is not None:
+                start = some_start(orders, source)
+                found.append([polygon_from(orders, rows, source, start) for _ in range(2)])
+    return tuple(found)
+
+
+@lru_cache(maxsize=None)
 def fitting_gluings():
     """Polygons with pairings that fit, on floors of each kind."""
     source = random.Random(5)
@@ -138,7 +190,7 @@ def fitting_gluings():
         for many in (1, 2, 3, 4, 6, 8):
             rows = permuted(orders, many, source)
             if rows is not None:
-                found.append(polygon_from(orders, rows, source))
+                found.append(polygon_from(orders, rows, source, some_start(orders, source)))
     for orders in ((2, 2, 2), (3, 3, 2), (2, 5, 2), (3, 4, 2)):
         tiles = tuple(tile for ring in reference(orders).rings(12) for tile in ring)
         found.append(((orders, tiles), ()))

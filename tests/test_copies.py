@@ -9,7 +9,7 @@ from foldfloor.pairing import mirrors, row_motion
 from foldfloor.rings import ball
 from tests.gluings import (fitting_gluings, pair_word, reference, row_word, slow_cut, slow_overlap,
                            slow_walk, some_gluings, some_row)
-from tests.reference import LETTERS, all_words
+from tests.reference import all_words
 from tests.test_border import NOT_POLYGONS
 from tests.test_words import some_words
 
@@ -230,10 +230,6 @@ class Errors(unittest.TestCase):
                     for wrong in NOT_POLYGONS:
                         with self.assertRaises(NotPolygon):
                             call(wrong, (), value)
-
-    def test_all_letters(self):
-        for letter in LETTERS:
-            self.assertEqual(copies.place_of(WHOLE, (), letter), letter)
 
 
 if __name__ == "__main__":

@@ -65,6 +65,16 @@ INTERFACE = {
     "copies": {"part_of": "polygon pairs tile", "place_of": "polygon pairs tile",
                "cut_row": "polygon pairs row", "in_group": "polygon pairs word",
                "copy_of": "polygon pairs row"},
+    "groups": {"relations": "polygon pairs", "index_of": "polygon pairs",
+               "same_group": "one pairs other others", "is_normal": "polygon pairs"},
+    "surface": {"side_count": "polygon pairs", "rim": "polygon pairs", "has_sides": "polygon pairs",
+                "euler_number": "polygon pairs", "exact_euler_number": "polygon pairs",
+                "handles": "polygon pairs", "name_of": "polygon pairs"},
+    "images": {"check_images": "polygon pairs images", "permutation_of": "polygon pairs images row",
+               "satisfies": "polygon pairs images", "is_transitive": "polygon pairs images",
+               "all_images": "polygon pairs degree"},
+    "covers": {"copy_rows": "polygon pairs images", "cover": "polygon pairs images",
+               "in_lower": "polygon pairs images word", "is_regular": "polygon pairs images"},
 }
 
 # The methods that the interface lists for classes, with their arguments behind the object itself.
@@ -72,6 +82,9 @@ CLASSES = {
     ("words", "Tiles"): {"__init__": "orders", "normal": "word", "beyond": "tile letter",
                          "ends": "word"},
     ("rounds", "Round"): {"__len__": ""},
+    ("maps", "Map"): {"__init__": "polygon pairs closed", "closed_sides": "", "is_open": "tile letter",
+                      "rooms": "", "room_of": "tile", "with_closed": "tile letter",
+                      "with_open": "tile letter", "__eq__": "other", "__len__": ""},
 }
 
 
