@@ -67,5 +67,4 @@ def copy_of(polygon, pairs, row):
     """The list of the tiles to which the motion of a row takes the tiles of the polygon."""
     gluing = fitting(polygon, pairs)
     check_row(pairs, row)
-    motion = gluing.row_motion(row)
-    return [gluing.floor.normal(motion + tile) for tile in gluing.tiles]
+    return list(gluing.tiles_of_copy(row).values())

@@ -36,17 +36,8 @@ def rows_of(images):
     return [rows[s] for s in range(len(queue))]
 
 
-def tiles_of_copies(gluing, images):
-    """For each number the tiles of its copy, by the tiles of the polygon."""
-    found = []
-    for row in rows_of(images):
-        motion = gluing.row_motion(row)
-        found.append({tile: gluing.floor.normal(motion + tile) for tile in gluing.tiles})
-    return found
-
-
 def pairs_of_copies(gluing, images, found, larger):
-    """The pairs of the cover, for the tiles of its copies."""
+    """The pairs of the cover, for the tiles of its copies; the tiles of the cover are keys."""
     pairs = []
     for s in range(len(found)):
         for k, ((one, letter), (other, _)) in enumerate(gluing.pairs):
@@ -67,7 +58,7 @@ def copy_rows(polygon, pairs, images):
 def cover(polygon, pairs, images):
     """The cover: a pair of a polygon and a pairing."""
     gluing = with_cover(polygon, pairs, images)
-    found = tiles_of_copies(gluing, images)
+    found = [gluing.tiles_of_copy(row) for row in rows_of(images)]
     larger = polygon_within_limits(gluing.orders, [tile for tiles in found for tile in tiles.values()])
     inside = {tile: True for tile in larger[1]}
     return larger, pairs_of_copies(gluing, images, found, inside)

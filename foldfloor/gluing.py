@@ -1,6 +1,7 @@
 """Polygons with pairings, and the walk over their tiles."""
 
 from foldfloor.depths import Floor
+from foldfloor.longwords import LongWords
 from foldfloor.polygons import tiles_beyond
 
 
@@ -11,6 +12,7 @@ class Gluing:
         self.orders, self.tiles = polygon
         self.pairs = pairs
         self.floor = Floor(self.orders)
+        self.words = LongWords(self.floor)
         # For each side: the tile to which the walk leads over it, and the integer that it notes, or 0.
         self.leads = {}
         # The numbers of the mirrors, by their sides.
@@ -45,18 +47,13 @@ class Gluing:
 
     def row_motion(self, row):
         """The normal word of the motion of a row."""
-        words = []
+        motion = ""
         for number in row:
             word = self.pair_word(abs(number) - 1)
-            words.append(word if number > 0 else word[::-1])
-        return self.product(words)
+            motion = self.words.normal_behind(motion, word if number > 0 else word[::-1])
+        return motion
 
-    def product(self, words):
-        """The normal word of some words, one behind the other."""
-        if len(words) == 0:
-            return ""
-        # Halves first: what cuts each other is gone before the words are long.
-        middle = len(words) // 2
-        if middle == 0:
-            return self.floor.normal(words[0])
-        return self.floor.normal(self.product(words[:middle]) + self.product(words[middle:]))
+    def tiles_of_copy(self, row):
+        """For each tile the tile to which the motion of a row takes it."""
+        motion = self.row_motion(row)
+        return {tile: self.words.normal_behind(motion, tile) for tile in self.tiles}

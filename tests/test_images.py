@@ -90,6 +90,7 @@ class Conditions(unittest.TestCase):
             self.check(TWO, PAIRS, (wrong, wrong), False)
             self.check(TWO, PAIRS, ((0, 1), wrong), False)
             self.check(TWO, PAIRS, (wrong, (0, 1)), False)
+        self.check(TWO, PAIRS, ([0, 1], [1, 0]), False)
 
     def test_degrees(self):
         for one, other in (((0,), (0, 1)), ((0, 1), (0,)), ((0, 1, 2), (1, 0)), ((1, 0, 3, 2), (0, 2, 1))):
