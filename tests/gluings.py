@@ -3,8 +3,10 @@
 import random
 from functools import lru_cache
 
+from foldfloor.errors import NotFitting, NotPairing, NotPolygon
 from foldfloor.words import Tiles
 from tests.reference import ALL, LETTERS, Reference, order_of, rank
+from tests.test_border import NOT_POLYGONS
 from tests.test_polygons import slow_sides, some_polygon
 
 CORNERS = [("0", "1"), ("0", "2"), ("1", "2")]
@@ -269,6 +271,16 @@ def slow_cut(pairs, row):
             at = len(row) - 1
         at -= 1
     return tuple(row)
+
+
+@lru_cache(maxsize=None)
+def wrong_gluings():
+    """Polygons with pairings that are refused, each with the error."""
+    unfit = [gluing for gluing in some_gluings() if slow_overlap(*gluing) is not None]
+    assert len(unfit) > 20
+    found = [(polygon, pairs, NotFitting) for polygon, pairs in unfit[::5]]
+    found += [(polygon, pairs[1:], NotPairing) for polygon, pairs in unfit[::5]]
+    return tuple(found + [(polygon, (), NotPolygon) for polygon in NOT_POLYGONS])
 
 
 def some_row(pairs, most, source):

@@ -8,7 +8,7 @@ from foldfloor.errors import BadNumber, NoAnswer, NotOrders, NotPolygon
 from foldfloor.polygons import border_sides, moved, polygon_of
 from foldfloor.rings import around, ball
 from tests.reference import ALL, LETTERS, Reference, order_of, rank
-from tests.test_polygons import WRONG_ORDERS, slow_sides, some_polygon, some_polygons
+from tests.test_polygons import WRONG_ORDERS, slow_sides, some_polygons
 
 CORNERS = [("0", "1"), ("0", "2"), ("1", "2")]
 

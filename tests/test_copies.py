@@ -4,13 +4,12 @@ import random
 import unittest
 
 from foldfloor import copies
-from foldfloor.errors import NotFitting, NotPairing, NotPolygon, NotRow, NotWord
+from foldfloor.errors import NotRow, NotWord
 from foldfloor.pairing import mirrors, row_motion
 from foldfloor.rings import ball
-from tests.gluings import (fitting_gluings, pair_word, reference, row_word, slow_cut, slow_overlap,
-                           slow_walk, some_gluings, some_row)
+from tests.gluings import (fitting_gluings, pair_word, reference, row_word, slow_cut, slow_walk,
+                           some_row, wrong_gluings)
 from tests.reference import all_words
-from tests.test_border import NOT_POLYGONS
 from tests.test_words import some_words
 
 TWO = ((3, 4, 2), ("", "0"))
@@ -216,20 +215,13 @@ class Errors(unittest.TestCase):
                 call(WHOLE, (), (1,))
 
     def test_errors_in_their_order(self):
-        not_fitting = [(polygon, pairs) for polygon, pairs in some_gluings()
-                       if slow_overlap(polygon, pairs) is not None]
-        self.assertGreater(len(not_fitting), 20)
-        for calls, values in ((WORD_CALLS, ("", "3")), (ROW_CALLS, ((), (0,)))):
-            for call in calls:
-                for value in values:
-                    for polygon, pairs in not_fitting[::3]:
-                        with self.assertRaises(NotFitting):
-                            call(polygon, pairs, value)
-                        with self.assertRaises(NotPairing):
-                            call(polygon, pairs[1:], value)
-                    for wrong in NOT_POLYGONS:
-                        with self.assertRaises(NotPolygon):
-                            call(wrong, (), value)
+        for polygon, pairs, error in wrong_gluings():
+            for call in WORD_CALLS:
+                self.assertRaises(error, call, polygon, pairs, "")
+                self.assertRaises(error, call, polygon, pairs, "3")
+            for call in ROW_CALLS:
+                self.assertRaises(error, call, polygon, pairs, ())
+                self.assertRaises(error, call, polygon, pairs, (0,))
 
 
 if __name__ == "__main__":

@@ -7,7 +7,7 @@ from functools import lru_cache
 
 from foldfloor import covers
 from foldfloor.copies import in_group
-from foldfloor.errors import NoAnswer, NotFitting, NotImages, NotPairing, NotPolygon, NotWord, TooLarge
+from foldfloor.errors import NoAnswer, NotImages, NotWord, TooLarge
 from foldfloor.groups import index_of, same_group
 from foldfloor.pairing import is_pairing, mirrors, pair_motion, row_motion
 from foldfloor.polygons import is_polygon
@@ -15,9 +15,8 @@ from foldfloor.rings import ball
 from foldfloor.rounds import fits
 from foldfloor.surface import exact_euler_number
 from foldfloor.words import normal
-from tests.gluings import fitting_gluings, reference, row_word, slow_overlap, some_gluings
+from tests.gluings import fitting_gluings, reference, row_word, wrong_gluings
 from tests.reference import rank
-from tests.test_border import NOT_POLYGONS
 from tests.test_copies import slow_part
 from tests.test_groups import products_of, slow_relations
 from tests.test_images import (FREE, ONE, PAIRS, TWO, WHOLE, slow_images, slow_permutation, slow_satisfies,
@@ -281,18 +280,11 @@ class Errors(unittest.TestCase):
             self.assertIs(covers.in_lower(ONE, mirrors(ONE), images, "0" * 60), True)
 
     def test_wrong_polygons_and_pairings(self):
-        not_fitting = [(polygon, pairs) for polygon, pairs in some_gluings()
-                       if slow_overlap(polygon, pairs) is not None]
-        for call in CALLS:
+        for polygon, pairs, error in wrong_gluings():
             for images in ((), ((0, 0),)):
-                for polygon, pairs in not_fitting[::9]:
-                    with self.assertRaises(NotFitting):
-                        call(polygon, pairs, images)
-                    with self.assertRaises(NotPairing):
-                        call(polygon, pairs[1:], images)
-                for wrong in NOT_POLYGONS:
-                    with self.assertRaises(NotPolygon):
-                        call(wrong, (), images)
+                for call in CALLS:
+                    self.assertRaises(error, call, polygon, pairs, images)
+                self.assertRaises(error, covers.in_lower, polygon, pairs, images, "3")
         self.assertIs(covers.in_lower(TWO, PAIRS, ((0,), (0,)), "01"), True)
 
 

@@ -10,10 +10,9 @@ from foldfloor.pairing import mirrors, pair_motion, row_motion
 from foldfloor.polygons import moved
 from foldfloor.rings import ball
 from foldfloor.rounds import rounds_of
-from tests.gluings import (fitting_gluings, mixed, pair_word, polygon_from, reference,
-                           slow_overlap, slow_step, slow_walk, some_gluings, twins)
+from tests.gluings import (fitting_gluings, mixed, pair_word, polygon_from, reference, slow_step,
+                           slow_walk, twins, wrong_gluings)
 from tests.reference import ALL, LETTERS, all_words, order_of
-from tests.test_border import NOT_POLYGONS
 from tests.test_copies import slow_part
 from tests.test_rounds import slow_rounds
 
@@ -216,17 +215,10 @@ class Normal(unittest.TestCase):
 
 class Errors(unittest.TestCase):
     def test_errors(self):
-        not_fitting = [(polygon, pairs) for polygon, pairs in some_gluings()
-                       if slow_overlap(polygon, pairs) is not None]
-        for call in CALLS:
-            for polygon, pairs in not_fitting[::4]:
-                with self.assertRaises(NotFitting):
+        for polygon, pairs, error in wrong_gluings():
+            for call in CALLS:
+                with self.assertRaises(error):
                     call(polygon, pairs)
-                with self.assertRaises(NotPairing):
-                    call(polygon, pairs[1:])
-            for wrong in NOT_POLYGONS:
-                with self.assertRaises(NotPolygon):
-                    call(wrong, ())
 
 
 if __name__ == "__main__":

@@ -9,8 +9,7 @@ from foldfloor.errors import BadNumber, NotFitting, NotImages, NotPairing, NotPo
 from foldfloor.groups import relations
 from foldfloor.pairing import mirrors, row_motion
 from foldfloor.rings import ball
-from tests.gluings import fitting_gluings, slow_overlap, some_gluings, some_row
-from tests.test_border import NOT_POLYGONS
+from tests.gluings import fitting_gluings, some_row, wrong_gluings
 from tests.test_groups import products_of, slow_relations
 
 ONE = ((3, 4, 2), ("",))
@@ -239,20 +238,11 @@ class All(unittest.TestCase):
 
 class Errors(unittest.TestCase):
     def test_errors_in_their_order(self):
-        not_fitting = [(polygon, pairs) for polygon, pairs in some_gluings()
-                       if slow_overlap(polygon, pairs) is not None]
-        calls = (images.check_images, images.satisfies, images.is_transitive,
-                 lambda polygon, pairs, found: images.permutation_of(polygon, pairs, found, (0,)))
-        for call in calls:
+        for polygon, pairs, error in wrong_gluings():
             for found in ((), ((0, 0),), ((0, 1),) * 30):
-                for polygon, pairs in not_fitting[::6]:
-                    with self.assertRaises(NotFitting):
-                        call(polygon, pairs, found)
-                    with self.assertRaises(NotPairing):
-                        call(polygon, pairs[1:], found)
-                for wrong in NOT_POLYGONS:
-                    with self.assertRaises(NotPolygon):
-                        call(wrong, (), found)
+                for call in (images.check_images, images.satisfies, images.is_transitive):
+                    self.assertRaises(error, call, polygon, pairs, found)
+                self.assertRaises(error, images.permutation_of, polygon, pairs, found, (0,))
 
 
 if __name__ == "__main__":

@@ -3,13 +3,12 @@
 import random
 import unittest
 
-from foldfloor.errors import BadNumber, NotFitting, NotPairing, NotPolygon, NotWord
+from foldfloor.errors import BadNumber, NotWord
 from foldfloor.maps import Map
 from foldfloor.pairing import mirrors
 from foldfloor.rings import ball
-from tests.gluings import fitting_gluings, slow_overlap, slow_step, some_gluings
+from tests.gluings import fitting_gluings, slow_step, wrong_gluings
 from tests.reference import LETTERS
-from tests.test_border import NOT_POLYGONS
 from tests.test_copies import slow_part
 from tests.test_images import FREE, ONE, PAIRS, TWO, WHOLE
 from tests.test_words import some_words
@@ -232,19 +231,9 @@ class Errors(unittest.TestCase):
                 Map(TWO, GLUED, [side])
             with self.assertRaises(BadNumber):
                 Map(TWO, GLUED, [("", "0"), side])
-            not_fitting = [(polygon, pairs) for polygon, pairs in some_gluings()
-                           if slow_overlap(polygon, pairs) is not None]
-            for polygon, pairs in not_fitting[::9]:
-                with self.assertRaises(NotFitting):
-                    Map(polygon, pairs, [side])
-                with self.assertRaises(NotPairing):
-                    Map(polygon, pairs[1:], [side])
-            for wrong in NOT_POLYGONS:
-                with self.assertRaises(NotPolygon):
-                    Map(wrong, (), [side])
-        for polygon, pairs in not_fitting[::9]:
-            with self.assertRaises(NotFitting):
-                Map(polygon, pairs, [])
+            for polygon, pairs, error in wrong_gluings():
+                self.assertRaises(error, Map, polygon, pairs, [side])
+                self.assertRaises(error, Map, polygon, pairs, [])
 
     def test_wrong_words_and_letters(self):
         chart = Map(TWO, GLUED, [("", "1")])

@@ -5,14 +5,12 @@ import unittest
 from fractions import Fraction
 
 from foldfloor import surface
-from foldfloor.errors import NotFitting, NotPairing, NotPolygon
 from foldfloor.orders import kind_of
 from foldfloor.pairing import mirrors
 from foldfloor.rings import ball
-from tests.gluings import (border_of, fitting_gluings, large_gluings, mixed, slow_overlap, slow_step, some_gluings,
-                           twins)
+from tests.gluings import (border_of, fitting_gluings, large_gluings, mixed, slow_step, twins,
+                           wrong_gluings)
 from tests.reference import ALL, LETTERS, order_of
-from tests.test_border import NOT_POLYGONS
 from tests.test_rounds import slow_rounds
 
 ONE = ((3, 4, 2), ("",))
@@ -248,17 +246,9 @@ class SameGroup(unittest.TestCase):
 
 class Errors(unittest.TestCase):
     def test_errors_in_their_order(self):
-        not_fitting = [(polygon, pairs) for polygon, pairs in some_gluings()
-                       if slow_overlap(polygon, pairs) is not None]
         for call in CALLS:
-            for polygon, pairs in not_fitting[::6]:
-                with self.assertRaises(NotFitting):
-                    call(polygon, pairs)
-                with self.assertRaises(NotPairing):
-                    call(polygon, pairs[1:])
-            for wrong in NOT_POLYGONS:
-                with self.assertRaises(NotPolygon):
-                    call(wrong, ())
+            for polygon, pairs, error in wrong_gluings():
+                self.assertRaises(error, call, polygon, pairs)
 
 
 if __name__ == "__main__":
