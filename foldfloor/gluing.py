@@ -10,15 +10,18 @@ class Gluing:
 
     def __init__(self, polygon, pairs):
         self.orders, self.tiles = polygon
-        self.pairs = pairs
         self.floor = Floor(self.orders)
         self.words = LongWords(self.floor)
+        self.inner = tiles_beyond(self.floor, self.tiles)
+        self.glue(pairs)
+
+    def glue(self, pairs):
+        """Takes a pairing of the polygon instead of the one before."""
+        self.pairs = pairs
         # For each side: the tile to which the walk leads over it, and the integer that it notes, or 0.
-        self.leads = {}
+        self.leads = {side: (there, 0) for side, there in self.inner.items()}
         # The numbers of the mirrors, by their sides.
         self.mirrors = {}
-        for side, there in tiles_beyond(self.floor, self.tiles).items():
-            self.leads[side] = (there, 0)
         for k, (one, other) in enumerate(pairs):
             if one == other:
                 self.mirrors[one] = k

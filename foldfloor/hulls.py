@@ -82,6 +82,15 @@ def hull_polygon(orders, words):
     return polygon_within_limits(orders, hull_within(orders, words, MOST_TILES))
 
 
+def shortest_around(floor, tile, corner):
+    """The normal word of the shortest tile around a corner of the tile of a normal word."""
+    ends = [letter for letter in floor.ends(tile) if letter in corner]
+    while ends != []:
+        tile = floor.below(tile, ends[0])
+        ends = [letter for letter in floor.ends(tile) if letter in corner]
+    return tile
+
+
 def gate(orders, word, tile, corner):
     """The tile around a corner of a tile that is nearest to the tile of a word."""
     check_orders(orders)
@@ -89,9 +98,5 @@ def gate(orders, word, tile, corner):
     if corner not in PAIRS:
         raise BadNumber("a corner is a pair of two letters in ascending order")
     floor = Floor(orders)
-    way = way_between(floor, word, tile)
-    ends = [letter for letter in floor.ends(way) if letter in corner]
-    while ends != []:
-        way = floor.below(way, ends[0])
-        ends = [letter for letter in floor.ends(way) if letter in corner]
+    way = shortest_around(floor, way_between(floor, word, tile), corner)
     return floor.normal(word + way)

@@ -75,7 +75,22 @@ INTERFACE = {
                "all_images": "polygon pairs degree"},
     "covers": {"copy_rows": "polygon pairs images", "cover": "polygon pairs images",
                "in_lower": "polygon pairs images word", "is_regular": "polygon pairs images"},
+    "walk": {"first_way": "chart start end", "reach": "chart tile steps", "floor_way": "chart one other most",
+             "ends": "chart tile"},
+    "motions": {"order_of_motion": "orders word", "kind_of_motion": "orders word",
+                "conjugate": "orders word by", "mirror_place": "orders word", "turn_place": "orders word",
+                "moved": "orders word tile"},
+    "flat": {"has_places": "orders", "height": "orders", "marks": "orders", "place": "orders word",
+             "slopes": "orders place", "is_place": "orders place", "tile_at": "orders place",
+             "steps_to": "orders place", "is_shift": "orders word", "shift_of": "orders word"},
+    "picture": {"picture": "orders words", "tiles_in": "orders picture_text corner"},
+    "search": {"count_pairings": "polygon", "all_pairings": "polygon", "pairing_at": "polygon number",
+               "fitting_pairings": "polygon most", "group_classes": "polygon most"},
 }
+
+# The arguments that are told by their names, with what they are if they are not told.
+KEYWORDS = {("walk", "floor_way", "most"): 12, ("search", "fitting_pairings", "most"): 200,
+            ("search", "group_classes", "most"): 200}
 
 # The methods that the interface lists for classes, with their arguments behind the object itself.
 CLASSES = {
@@ -205,7 +220,13 @@ class Interface(unittest.TestCase):
             for function, arguments in functions.items():
                 found = getattr(module, function)
                 self.assertEqual(found.__module__, module.__name__)
-                self.assertEqual(list(inspect.signature(found).parameters), arguments.split())
+                parameters = inspect.signature(found).parameters
+                self.assertEqual(list(parameters), arguments.split())
+                for argument, parameter in parameters.items():
+                    told = KEYWORDS.get((name, function, argument), inspect.Parameter.empty)
+                    self.assertEqual(parameter.default, told)
+                    alone = parameter.kind == inspect.Parameter.KEYWORD_ONLY
+                    self.assertEqual(alone, told is not inspect.Parameter.empty)
 
     def test_methods_stand_in_their_classes(self):
         for (name, class_name), methods in CLASSES.items():
