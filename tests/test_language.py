@@ -86,11 +86,18 @@ INTERFACE = {
     "picture": {"picture": "orders words", "tiles_in": "orders picture_text corner"},
     "search": {"count_pairings": "polygon", "all_pairings": "polygon", "pairing_at": "polygon number",
                "fitting_pairings": "polygon most", "group_classes": "polygon most"},
+    "answers": {"answer_of": "polygon pairs", "full_list": "orders word"},
+    "certificates": {"is_log": "orders start end log", "is_full": "orders words",
+                     "is_table": "polygon pairs table", "is_overlap": "polygon pairs certificate",
+                     "laid": "polygon pairs table word", "shown": "polygon pairs answer"},
+    "lines": {"words_of": "line", "is_name": "word", "number_in": "word", "text_of": "word",
+              "word_in": "text"},
+    "journal": {"attempt": "journal lines keep", "resume": "text"},
 }
 
 # The arguments that are told by their names, with what they are if they are not told.
 KEYWORDS = {("walk", "floor_way", "most"): 12, ("search", "fitting_pairings", "most"): 200,
-            ("search", "group_classes", "most"): 200}
+            ("search", "group_classes", "most"): 200, ("journal", "attempt", "keep"): False}
 
 # The methods that the interface lists for classes, with their arguments behind the object itself.
 CLASSES = {
@@ -100,6 +107,9 @@ CLASSES = {
     ("maps", "Map"): {"__init__": "polygon pairs closed", "closed_sides": "", "is_open": "tile letter",
                       "rooms": "", "room_of": "tile", "with_closed": "tile letter",
                       "with_open": "tile letter", "__eq__": "other", "__len__": ""},
+    ("desk", "Desk"): {"__init__": "", "answer": "line", "answers": "lines", "names": "", "thing": "name"},
+    ("journal", "Journal"): {"__init__": "", "answer": "line", "record": "", "lines": "", "keep": "",
+                             "__enter__": "", "__exit__": "kind value trace"},
 }
 
 
