@@ -46,8 +46,8 @@ class FullLists(unittest.TestCase):
         # Each 01 can be turned, so there are 2^8 and 2^9 words.
         self.assertEqual(len(answers.full_list((2, 0, 0), "012" * 8)), 256)
         self.assertRaises(TooLarge, answers.full_list, (2, 0, 0), "012" * 9)
-        word = "1201202012012012012020121"
-        self.assertEqual(len(answers.full_list((2, 3, 7), word)), 497)
+        word = "0121201202012120120121201201201"
+        self.assertEqual(len(answers.full_list((2, 5, 0), word)), 500)
         self.assertRaises(TooLarge, answers.full_list, (3, 3, 3), "0102" * 15)
         self.assertRaises(TooLarge, answers.full_list, (2, 4, 4), "012" * 20)
         self.assertEqual(answers.full_list((3, 3, 3), "012" * 20), ["012" * 20])
@@ -173,10 +173,30 @@ class Overlaps(unittest.TestCase):
         polygon = deep_polygon((3, 2, 0), "012" * 5)
         self.check(polygon, mirrors(polygon), answers.answer_of(polygon, mirrors(polygon)))
 
-    def test_too_many_steps(self):
+    def test_one_list_that_is_too_large(self):
+        polygon = deep_polygon((3, 4, 2), "2")
+        sizes = [len(answers.full_list(polygon[0], tile)) for tile in polygon[1]]
+        self.assertLess(sizes[0], sizes[1])
+        for most, told in ((sizes[0] - 1, False), (sizes[0], False), (sizes[1] - 1, False), (sizes[1], True)):
+            with patch.object(answers, "MOST_LISTED", most):
+                if told:
+                    self.check(polygon, mirrors(polygon), answers.answer_of(polygon, mirrors(polygon)))
+                else:
+                    self.assertRaises(TooLarge, answers.answer_of, polygon, mirrors(polygon))
+
+    def test_just_within_the_limits(self):
+        # The word and the log that are needed, and a letter or a step less.
         polygon = ((3, 4, 2), ("", "0"))
-        self.check(polygon, mirrors(polygon), answers.answer_of(polygon, mirrors(polygon)))
-        with patch.object(answers, "MOST_STEPS", 0):
+        found = answers.answer_of(polygon, mirrors(polygon))
+        self.check(polygon, mirrors(polygon), found)
+        row, one, _, log, _, _ = found[1]
+        for limit, most in (("MOST_STEPS", len(log)),
+                            ("MOST_LONG", len(row_word(mirrors(polygon), row) + polygon[1][one]))):
+            with patch.object(answers, limit, most):
+                self.assertEqual(answers.answer_of(polygon, mirrors(polygon))[0], "overlaps")
+            with patch.object(answers, limit, 0):
+                self.assertRaises(TooLarge, answers.answer_of, polygon, mirrors(polygon))
+        with patch.object(answers, "MOST_LONG", most - 1):
             self.assertRaises(TooLarge, answers.answer_of, polygon, mirrors(polygon))
 
 

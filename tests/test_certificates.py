@@ -124,9 +124,17 @@ class Logs(unittest.TestCase):
                      ("turn", 0, "0", "0"), ("turn", 0, "", "01"), ("turn", 0, "x", "0"), ("turn", 0, "01", "10"),
                      ("turn", -4, "0", "1"), ("turn", 2, "0", "1"), ("turn", 10 ** 30, "0", "1"),
                      ("turn", 0, "1", "0"), ("turn", 0, "1", "2")):
-            for end in ("0101", "", "010100", "1001", "01"):
+            for end in ("0101", "", "010100", "1001", "01", "1011", "0010"):
                 self.assertIs(certificates.is_log((3, 0, 2), "0101", end, [step]), False, step)
         self.assertIs(certificates.is_log((3, 0, 2), "0101", "1011", [("turn", 0, "0", "1")]), True)
+
+    def test_steps_of_no_form(self):
+        for step in ((), ("cut",), ("cut", "0"), ["cut", 0], ("jump", 0), ("put", 0), ("cut", 0, "1"), ("turn", 0, "0"),
+                     ("turn", 0, "0", "1", "2"), (0, 0), 5, "cut", ("cut", (0,)), ("put", 0, 0), ("cut", False)):
+            for end in ("", "00"):
+                self.assertIs(certificates.is_log((3, 3, 3), "00", end, [step]), False, step)
+        for log in (5, "cut", ("cut", 0), 0):
+            self.assertIs(certificates.is_log((3, 3, 3), "00", "", log), False)
 
     def test_two_hundred_letters(self):
         word = "012" * 66
@@ -156,7 +164,8 @@ class FullLists(unittest.TestCase):
                             (["00"], False), (["010"], False), (["010", "101"], True), (["101", "010"], True),
                             (["010", "101", "02"], False), (["010", "101", "02", "20"], True),
                             (["010", "101", "11"], False), (["010", "101", ""], True), (["02", "20", "02"], True),
-                            (["0102", "1012", "0120"], True), (["0102", "0120"], False), (["02"], False), (["1212"], False),
+                            (["0102", "1012", "0120"], True), (["0102", "0120"], False), (["02"], False),
+                            (["1212"], False),
                             (["1212", "2121"], True), (["0110"], False)):
             self.assertIs(certificates.is_full(orders, words), told, words)
 
@@ -202,7 +211,8 @@ class Tables(unittest.TestCase):
                 for i, (u, row, log) in enumerate(entries):
                     for index in (-1, u - len(table), len(table), (u + 1) % len(table), 10 ** 20):
                         self.refused(polygon, pairs, with_entry(table, t, i, (index, row, log)))
-                    for other in (row + (1,), row + (0,), (0,), (len(pairs) + 1,), (-len(pairs) - 1,), row + (1, 1, 1, 1),
+                    for other in (row + (1,), row + (0,), (0,), (len(pairs) + 1,), (-len(pairs) - 1,),
+                                  row + (1, 1, 1, 1),
                                   (1, -1, 1, -1), row + (10 ** 20,)):
                         self.refused(polygon, pairs, with_entry(table, t, i, (u, other, log)))
                     for steps_told in (log[:-1] if log else [("cut", 0)], log + [("put", 0, "0")],
@@ -229,6 +239,16 @@ class Tables(unittest.TestCase):
         self.refused(FREE, mirrors(FREE), with_entry(TABLE, 0, 0, first))
         self.refused(FREE, mirrors(FREE), with_entry(TABLE, 0, 0, (0, (1, 1, 1), [])))
         self.refused(FREE, mirrors(FREE), with_entry(TABLE, 0, 0, (0, (1, 1), [])))
+        # Rows of two and of four integers, both with right logs.
+        polygon = ((0, 0, 0), ("", "0"))
+        _, table = answer_of(polygon, mirrors(polygon))
+        for row, told in (((1, 1), True), ((1, 1, 1, 1), False), ((1, 1, 2, -2), False), ((1, -1), True)):
+            word = row_word(mirrors(polygon), row)
+            entry = (1, row, [("put", k, letter) for k, letter in enumerate(word[:1])])
+            if len(row) == 4:
+                entry = (1, row, entry[2] + [("put", 2, word[2])])
+            self.assertTrue(steps.is_log(polygon[0], "0", word + "0", entry[2]))
+            self.assertIs(certificates.is_table(polygon, mirrors(polygon), with_entry(table, 0, 0, entry)), told)
         # An integer more makes another motion, too.
         self.refused(FREE, mirrors(FREE), with_entry(TABLE, 0, 0, (0, (1, 2, 2, 1), [])))
 
@@ -354,6 +374,31 @@ class OtherForms(unittest.TestCase):
         self.assertIs(certificates.is_overlap(polygon, list(pairs), found), False)
         self.assertIs(certificates.is_overlap(polygon, (), found), False)
 
+    def test_things_of_other_kinds(self):
+        pairs = mirrors(FREE)
+        for entry in (5, "0", (), ("0", (1,), ()), ((0,), (1,), ()), (False, (1,), ()), (0, 1, ()), (0, "1", ()),
+                      (0, ("1",), ()), (0, ((1,),), ()), (0, [1], ()), (0, (True,), ()), (0, (1,), 5), (0, (1,), "cut"),
+                      (0, (1,), (5,)), (0, (1,), ((),)), [0, (1,), ()]):
+            self.assertIs(certificates.is_table(FREE, pairs, with_entry(TABLE, 0, 0, entry)), False, entry)
+        for table in (5, "", None, [], list(TABLE), (5,), ("000",), (list(TABLE[0]),)):
+            self.assertIs(certificates.is_table(FREE, pairs, table), False)
+        for wrong in (5, "", None, (5,), ("00",), ((("", "0"),),), ((5, 5),), ((("", "0"), 5),), (("", ""),),
+                      ((("", "0"), ("", "0", "0")),), (((0, "0"), (0, "0")),), ((("", 0), ("", 0)),),
+                      ((["", "0"], ["", "0"]),)):
+            self.assertIs(certificates.is_table(FREE, wrong, TABLE), False, wrong)
+            self.assertIs(certificates.is_overlap(FREE, wrong, ((), 0, 0, [], [""], [""])), False)
+        polygon, pairs = TWO, mirrors(TWO)
+        row, u, t, log, first, second = answer_of(polygon, pairs)[1]
+        found = (row, u, t, log, first, second)
+        for at, others in ((0, (5, "1", list(row), ("1",) + row, ((1,),))), (1, ("0", (u,), None, bool(u))),
+                           (2, ("0", (t,), None, bool(t))), (3, (5, "cut", None)),
+                           (4, (5, None, "", first[0], [5], first + [5], [first])),
+                           (5, (5, None, "", second[0], [5], second + [5], [second]))):
+            for other in others:
+                self.assertIs(certificates.is_overlap(polygon, pairs, changed(found, at, other)), False, (at, other))
+        for wrong in (5, "", None, list(found), (5,) * 6):
+            self.assertIs(certificates.is_overlap(polygon, pairs, wrong), False)
+
     def test_polygons_of_any_length(self):
         for tiles in ((), ("",) * 70, ("", "01"), ("0", ""), tuple(all_words(4)), ("00",), ("0", "0")):
             polygon = ((3, 4, 2), tiles)
@@ -413,8 +458,10 @@ class Overlaps(unittest.TestCase):
             _, found = answer_of(polygon, pairs)
             self.assertIs(certificates.is_overlap(polygon, pairs, found), True)
             row, u, t, log, first, second = found
-            for right in ((row, u, t, tuple(log), first, second), (row, u, t, log + [("put", 0, "0"), ("cut", 0)], first, second),
-                          (row, u, t, log, first[::-1], second + second), (row, u, t, log, tuple(first), tuple(second))):
+            for right in ((row, u, t, tuple(log), first, second),
+                          (row, u, t, log + [("put", 0, "0"), ("cut", 0)], first, second),
+                          (row, u, t, log, first[::-1], second + second),
+                          (row, u, t, log, tuple(first), tuple(second))):
                 self.assertIs(certificates.is_overlap(polygon, pairs, right), True)
 
     def test_each_part(self):
@@ -529,6 +576,11 @@ class Errors(unittest.TestCase):
                 self.assertRaises(NotOrders, certificates.shown, (orders, tiles), (), ())
                 for word in ("", "3", "0" * 61):
                     self.assertRaises(NotOrders, certificates.laid, (orders, tiles), (), (), word)
+
+    def test_orders_of_other_kinds(self):
+        for orders in ((3, "3", 3), (3, None, 3), (False, 3, 3), (3, (3,), 3), [3, 3, 3], "333", 3):
+            self.assertRaises(NotOrders, certificates.is_full, orders, ["0"])
+            self.assertRaises(NotOrders, certificates.shown, (orders, ("",)), (), ())
 
     def test_words_of_two_hundred_letters(self):
         for word in ("3", "01a", "0" * 201, " "):

@@ -309,7 +309,8 @@ class Rows(unittest.TestCase):
                    ("show q", "3"), ("show m", "4"), ("show g", "2"), ("show z", "unknown z"))
 
     def test_words(self):
-        desk = self.check(("word w 101", "ok"), ("normal n f w", "010"), ("normal n f e", "-"), ("inverse i f b", "210"),
+        desk = self.check(("word w 101", "ok"), ("normal n f w", "010"), ("normal n f e", "-"),
+                          ("inverse i f b", "210"),
                           ("times t f a b", "12"), ("times u f a a", "-"), ("times t k l l", "refused"),
                           ("times t k l b", "refused"), ("normal w f w", "010"), ("normal f f w", "010"),
                           ("normal x f w", "kind f"))
@@ -431,7 +432,8 @@ class Bad(unittest.TestCase):
                    "show \u00e9", "word w\x7f 0")
 
     def test_commands(self):
-        self.check("bad", "shows f", "Show f", "SHOW f", "f", "-", "3", "answer f", "names", "ok", "height f", "grown z p",
+        self.check("bad", "shows f", "Show f", "SHOW f", "f", "-", "3", "answer f", "names", "ok", "height f",
+                   "grown z p",
                    "polygon_of z f e", "circle p")
 
     def test_numbers_of_words(self):
@@ -457,7 +459,8 @@ class Bad(unittest.TestCase):
 
     def test_numbers(self):
         for wrong in ("100", "07", "00", "-1", "+1", "x", "1.", "1000"):
-            self.check("bad", f"floor z {wrong} 3 3", f"floor z 3 {wrong} 3", f"floor z 3 3 {wrong}", f"glue z p {wrong}",
+            self.check("bad", f"floor z {wrong} 3 3", f"floor z 3 {wrong} 3", f"floor z 3 3 {wrong}",
+                       f"glue z p {wrong}",
                        f"glue z y {wrong}", f"glue z f {wrong}")
 
     def test_unknown(self):
@@ -467,7 +470,8 @@ class Bad(unittest.TestCase):
 
     def test_kind(self):
         self.check("kind p", "normal z p a", "normal z f p", "times z f p y", "times z p y y", "ends p y", "ends p f",
-                   "polygon z f a p y", "hull z p y", "fits p", "name p", "index p", "part p y", "part p a", "ingroup g p")
+                   "polygon z f a p y", "hull z p y", "fits p", "name p", "index p", "part p y", "part p a",
+                   "ingroup g p")
         self.check("kind f", "grow z f", "has f a", "border f", "area f", "euler f", "circles f", "mirrors z f",
                    "glue z f 1", "move z p f", "fits f", "part g f", "normal z f f", "ways f e f")
         self.check("kind g", "grow z g", "border g", "has g y", "ends g a", "ends f g")
@@ -481,7 +485,8 @@ class Bad(unittest.TestCase):
         self.check("kind p", "part p y")
 
     def test_refused_comes_last(self):
-        self.check("refused", "floor z 1 1 1", "floor f 3 3 1", "word z 3", "word e 3", "glue z p 4", "index m", "name m",
+        self.check("refused", "floor z 1 1 1", "floor f 3 3 1", "word z 3", "word e 3", "glue z p 4", "index m",
+                   "name m",
                    "part m a", "ingroup m a", "place f a", "shift k a", "polygon z f e b", "polygon p f e b",
                    "times z k l l", "times l k l l")
         self.check("unknown y", "place y a", "part m y", "polygon z f e b y", "shift k y")

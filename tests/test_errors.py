@@ -161,7 +161,8 @@ CASES = (
         [wrong("orders", 0), wrong("words", 1), wrong("no words", 1), wrong("many words", 1)])
        for name in ("parting_all", "hull", "is_convex", "hull_polygon")]
     + [(hulls.gate, (FLOOR, "01", "2", ("0", "1")),
-        [wrong("orders", 0), wrong("word", 1), wrong("word", 2), bad(3, BadNumber, ("1", "0"), ("0", "0"), ("0", "3"))])]
+        [wrong("orders", 0), wrong("word", 1), wrong("word", 2),
+         bad(3, BadNumber, ("1", "0"), ("0", "0"), ("0", "3"))])]
     + [(pairing.is_pairing, (TWO, GLUED), [wrong("polygon", 0)])]
     + of_polygon(pairing, "check_pairing", ())
     + of_polygon(pairing, "pair_motion", (0,), bad(2, BadNumber, -1, 2, 10 ** 20))

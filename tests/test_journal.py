@@ -86,7 +86,8 @@ class Records(unittest.TestCase):
     def test_each_character(self):
         for code in list(range(300)) + [0x2028]:
             journal = Journal()
-            self.assertEqual(journal.answer("show " + chr(code)), "unknown " + chr(code) if 97 <= code <= 122 else "bad")
+            self.assertEqual(journal.answer("show " + chr(code)),
+                             "unknown " + chr(code) if 97 <= code <= 122 else "bad")
             self.assertEqual(len(journal.lines()), 1 if 32 <= code <= 126 and code != 37 else 0)
 
     def test_lists_are_not_shared(self):

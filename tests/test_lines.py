@@ -50,7 +50,8 @@ class Numbers(unittest.TestCase):
             self.assertEqual(lines.number_in(str(number)), number)
 
     def test_other_words(self):
-        for word in ("100", "101", "999", "00", "07", "000", "010", "-1", "-0", "+1", "+7", "1.0", "1e1", "a", "0x1", "",
+        for word in ("100", "101", "999", "00", "07", "000", "010", "-1", "-0", "+1", "+7", "1.0", "1e1", "a", "0x1",
+                     "",
                      " 1", "1 ", "1_0", "-", "--", "\u0663", "\u00b2", "1" * 400):
             self.assertIsNone(lines.number_in(word), word)
 

@@ -178,6 +178,16 @@ class Reaches(unittest.TestCase):
         for steps in (9, 10, 12):
             with self.assertRaises(TooLarge):
                 walk.reach(chart, "0", steps)
+        # Exactly 1000 tiles are not too many, and 1001 are.
+        polygon = polygon_of((0, 0, 0), ["", "0", "1", "2"])
+        self.assertEqual(len(walk.reach(Map(polygon, mirrors(polygon), [("2", "1")]), "2", 10)), 1000)
+        polygon = polygon_of((7, 4, 8), ["", "0", "2", "21"])
+        pairs = ((("", "1"), ("0", "1")), (("0", "2"), ("0", "2")), (("2", "0"), ("21", "0")),
+                 (("21", "2"), ("21", "2")))
+        chart = Map(polygon, pairs, [("", "1"), ("0", "2")])
+        with self.assertRaises(TooLarge):
+            walk.reach(chart, "2", 12)
+        self.assertLess(len(walk.reach(chart, "2", 11)), 1000)
         # Closed sides make it smaller: there are two tiles of each length from 1 on.
         shut = Map(WIDE, mirrors(WIDE), [("", "2")])
         self.assertEqual(len(walk.reach(shut, "012", 12)), 25)
@@ -263,6 +273,10 @@ class FloorWays(unittest.TestCase):
         with self.assertRaises(TooLarge):
             walk.floor_way(chart, "", "2" + "01" * 20, most=9)
         self.assertIsNone(walk.floor_way(chart, "", "2" + "01" * 20, most=8))
+        # The search ends where the tile is met: the first ones of nine letters come early enough.
+        self.assertEqual(walk.floor_way(chart, "", "010101010"), "010101010")
+        with self.assertRaises(TooLarge):
+            walk.floor_way(chart, "", "212121212")
         # A tile and itself are met at once.
         self.assertEqual(walk.floor_way(chart, "21", "21"), "")
 
