@@ -1,7 +1,8 @@
 """Flat floors: the places of tiles as three integers, and shifts."""
 
+from foldfloor.border import third_letter
 from foldfloor.errors import NoAnswer, NotFlat, TooLarge
-from foldfloor.orders import LETTERS, MOST_LETTERS, check_orders, check_word, order_between
+from foldfloor.orders import LETTERS, MOST_LETTERS, PAIRS, check_orders, check_word, order_between
 
 # The height of a flat floor, by its orders in ascending order.
 HEIGHTS = {(3, 3, 3): 3, (2, 4, 4): 4, (2, 3, 6): 6}
@@ -28,22 +29,18 @@ def axes_of(orders):
     """The letters of the column and of the line."""
     if height_of(orders) == 3:
         return "1", "2"
-    low, high = [letter for letter in LETTERS if is_beside_right_angle(orders, letter)]
-    middle = [letter for letter in LETTERS if letter not in (low, high)][0]
+    low, high = [pair for order, pair in zip(orders, PAIRS) if order == 2][0]
+    middle = third_letter((low, high))
     # The third letter has the order 3 with the middle one.
     return middle, low if order_between(orders, middle, high) == 3 else high
-
-
-def is_beside_right_angle(orders, letter):
-    """Whether a letter has the order 2 with another one."""
-    return 2 in [order_between(orders, letter, other) for other in LETTERS if other != letter]
 
 
 def marks_of(orders):
     """The marks of the letters 0, 1, 2."""
     column, line = axes_of(orders)
     across, up = MARKS[height_of(orders)]
-    return tuple([across if letter == column else up if letter == line else 1 for letter in LETTERS])
+    told = {column: across, line: up}
+    return tuple([told.get(letter, 1) for letter in LETTERS])
 
 
 def bend(orders, letter, other):
@@ -83,11 +80,11 @@ def column_and_line(orders, place):
 
 def place_on(orders, column, line):
     """The three numbers that a column and a line tell."""
-    axes = axes_of(orders)
     across, up = MARKS[height_of(orders)]
-    numbers = (column, line)
     rest = height_of(orders) - across * column - up * line
-    return tuple([numbers[axes.index(letter)] if letter in axes else rest for letter in LETTERS])
+    one, other = axes_of(orders)
+    numbers = {one: column, other: line}
+    return tuple([numbers.get(letter, rest) for letter in LETTERS])
 
 
 def slopes_of(height, column, line):
